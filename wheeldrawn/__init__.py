@@ -1,0 +1,1 @@
+"""A drawing wheel that rolls along a toothed ring: see wheeldrawn.ring."""
