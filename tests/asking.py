@@ -30,6 +30,30 @@ def make(points):
     return [6, points]
 
 
+def common(number, tooth, other, other_tooth):
+    return [7, number, tooth, other, other_tooth]
+
+
+def same(number, tooth, other, other_tooth):
+    return [8, number, tooth, other, other_tooth]
+
+
+def cover(number):
+    return [9, number]
+
+
+def turns(number, other):
+    return [10, number, other]
+
+
+def turn(number, other, begun, k):
+    return [11, number, other, begun, k]
+
+
+def look():
+    return [12]
+
+
 def take_apart(numbers):
     """The answers, call by call, from counts with their numbers behind them."""
     apart = []
@@ -56,16 +80,20 @@ def ask_last(*calls):
 
 
 def in_parts(calls, size=50):
-    """The calls in runs short enough for one list beside a begin and a wheel."""
+    """The calls in runs short enough for one list beside a begin and wheels."""
     return [calls[at:at + size] for at in range(0, len(calls), size)]
 
 
-def ask_of_wheel(teeth, step, calls):
-    """The answers to the calls on a ring with one wheel, however many they are."""
+def ask_of_wheels(teeth, steps, calls):
+    """The answers to the calls on a ring with these wheels, however many they are."""
     given = []
     for part in in_parts(calls):
-        given.extend(ask(begin(teeth), wheel(step), *part)[2:])
+        given.extend(ask(begin(teeth), *[wheel(step) for step in steps], *part)[1 + len(steps):])
     return given
+
+
+def ask_of_wheel(teeth, step, calls):
+    return ask_of_wheels(teeth, [step], calls)
 
 
 def walked(teeth, step, begun):
@@ -79,6 +107,26 @@ def walked(teeth, step, begun):
         for tooth in range(step):
             place = 0 if place == teeth - 1 else place + 1
             passed += 1 if place == 0 else 0
+    return points
+
+
+def places(teeth, step, begun):
+    return [place for place, passed in walked(teeth, step, begun)]
+
+
+def lines_of(teeth, step, begun):
+    """The lines of a figure, each once, as pairs with the lower tooth first."""
+    points = places(teeth, step, begun)
+    ends = zip(points, points[1:] + points[:1])
+    return sorted(set((min(pair), max(pair)) for pair in ends))
+
+
+def laid_in_turn(teeth, step, other, begun, many):
+    """So many points of two wheels in turn, laid one by one."""
+    points = [begun]
+    while len(points) < many:
+        place = points[-1] + (step if len(points) % 2 == 1 else other)
+        points.append(place if place < teeth else place - teeth)
     return points
 
 

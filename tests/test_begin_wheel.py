@@ -1,6 +1,7 @@
 import unittest
 
-from asking import ask, ask_last, begin, crossings, figure, make, point, wheel, when
+from asking import (ask, ask_last, begin, common, cover, crossings, figure, look, make, point, same, turn, turns,
+                    wheel, when)
 
 
 class Begin(unittest.TestCase):
@@ -35,8 +36,9 @@ class WithoutBox(unittest.TestCase):
     # with numbers that it would refuse.
     CALLS = [
         wheel(1), wheel(0), figure(0), figure(9), point(0, 0, 0), point(9, 99, 200000), when(0, 0, 0), when(9, 99, 99),
-        crossings(0), crossings(9), make(1), make(0), [7, 0, 0, 0, 0], [7, 9, 99, 9, 99], [8, 0, 0, 0, 0],
-        [8, 9, 99, 9, 99], [9, 0], [9, 9], [10, 0, 0], [10, 9, 9], [11, 0, 0, 0, 0], [11, 9, 9, 99, 200000], [12],
+        crossings(0), crossings(9), make(1), make(0), common(0, 0, 0, 0), common(9, 99, 9, 99), same(0, 0, 0, 0),
+        same(9, 99, 9, 99), cover(0), cover(9), turns(0, 0), turns(9, 9), turn(0, 0, 0, 0), turn(9, 9, 99, 200000),
+        look(),
     ]
 
     def test_each_alone(self):

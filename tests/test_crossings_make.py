@@ -1,13 +1,6 @@
 import unittest
 
-from asking import ask, ask_last, begin, crossings, every_wheel, make, walked, wheel
-
-
-def lines_of(teeth, step):
-    """The lines of a figure, each once, as pairs with the lower tooth first."""
-    points = [place for place, passed in walked(teeth, step, 0)]
-    ends = zip(points, points[1:] + points[:1])
-    return sorted(set((min(pair), max(pair)) for pair in ends))
+from asking import ask, ask_last, begin, crossings, every_wheel, lines_of, make, walked, wheel
 
 
 def cross(one, other):
@@ -17,7 +10,7 @@ def cross(one, other):
 
 
 def counted_crossings(teeth, step):
-    lines = lines_of(teeth, step)
+    lines = lines_of(teeth, step, 0)
     return sum(cross(lines[at], other) for at in range(len(lines)) for other in lines[at + 1:])
 
 

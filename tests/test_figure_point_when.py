@@ -1,6 +1,6 @@
 import unittest
 
-from asking import ask, ask_last, ask_of_wheel, begin, every_wheel, figure, point, walked, wheel, when
+from asking import ask, ask_last, ask_of_wheel, begin, every_wheel, figure, places, point, walked, wheel, when
 
 
 class Figure(unittest.TestCase):
@@ -25,7 +25,7 @@ class Figure(unittest.TestCase):
 
     def test_every_wheel_as_it_rolls(self):
         for teeth, step in every_wheel():
-            points = [place for place, passed in walked(teeth, step, 0)]
+            points = places(teeth, step, 0)
             gap = sorted(points)[1]
             self.assertEqual(self.figure_of(teeth, step), [len(points), len(points) * step // teeth, gap])
 
@@ -79,7 +79,7 @@ class Point(unittest.TestCase):
     def test_every_wheel_as_it_rolls(self):
         for teeth, step in every_wheel([3, 4, 9, 12, 30]):
             for begun in range(teeth):
-                points = [place for place, passed in walked(teeth, step, begun)]
+                points = places(teeth, step, begun)
                 calls = [point(0, begun, k) for k in range(2 * len(points))]
                 self.assertEqual(ask_of_wheel(teeth, step, calls), [[place] for place in points + points])
 

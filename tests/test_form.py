@@ -11,8 +11,8 @@ PARTS = """Module Expr Constant Assign Name Load Store Tuple List Dict UnaryOp U
 Compare Eq NotEq Lt LtE Gt GtE In NotIn Is IsNot BoolOp And Or IfExp If While For Return Break Continue Pass AugAssign
 FunctionDef ClassDef arguments arg Attribute Subscript Slice Call keyword ListComp comprehension ImportFrom alias""".split()
 
-OWN_NAMES = """len range enumerate zip min max sum abs sorted reversed int str bool list tuple dict isinstance any all
-divmod""".split()
+OWN_NAMES = """len range enumerate zip min max sum abs sorted reversed int str bool list tuple dict set isinstance any
+all divmod""".split()
 
 METHODS = "append clear copy count extend get index insert items keys pop remove reverse setdefault update values".split()
 
@@ -72,6 +72,33 @@ class Form(unittest.TestCase):
                 self.assertNotIn(name, dir(builtins))
             for part in parts_of(path, ast.Name):
                 self.assertIn(part.id, bound + OWN_NAMES)
+
+    def test_sets_are_sorted_or_counted_at_once(self):
+        for path in files():
+            sets = [part for part in parts_of(path, ast.Call) if ast.unparse(part.func) == "set"]
+            within = [inner for part in parts_of(path, ast.Call) if ast.unparse(part.func) in ("sorted", "len")
+                      for inner in part.args if isinstance(inner, ast.Call) and ast.unparse(inner.func) == "set"]
+            self.assertEqual(len(sets), len(within), path.name)
+
+    def test_each_name_is_bound_once_at_the_top(self):
+        for path in files():
+            top = []
+            for part in ast.parse(path.read_text()).body:
+                if isinstance(part, (ast.FunctionDef, ast.ClassDef)):
+                    top.append(part.name)
+                if isinstance(part, ast.Assign):
+                    top.append(part.targets[0].id)
+            self.assertEqual(sorted(top), sorted(set(top)))
+            inside = [part.arg for part in parts_of(path, ast.arg)]
+            inside += [part.id for define in parts_of(path, ast.FunctionDef) for part in ast.walk(define)
+                       if isinstance(part, ast.Name) and isinstance(part.ctx, ast.Store)]
+            self.assertEqual(sorted(set(inside) & set(top)), [])
+
+    def test_one_target_in_an_assignment(self):
+        for path in files():
+            for part in parts_of(path, ast.Assign):
+                self.assertEqual(len(part.targets), 1)
+                self.assertIsInstance(part.targets[0], (ast.Name, ast.Attribute, ast.Subscript))
 
     def test_methods(self):
         for path in files():

@@ -13,8 +13,8 @@ NO_BOX = -9
 
 BEGIN = 0
 
-# What the numbers of each call are, at the call's own number. All calls stand
-# here, since without a box each is passed over whole and answered -9.
+# What the numbers of each call are, at the call's own number: by it a list is
+# cut into calls, and what isn't there is refused alike, whichever call it is.
 KINDS = (
     ("teeth",),
     ("teeth",),
@@ -124,9 +124,76 @@ def make(box, numbers):
     return [len(fitting)] + fitting
 
 
+def comes_to(teeth, step, begun, tooth):
+    """Whether a figure begun there has that tooth among its points."""
+    return (tooth - begun) % common_divisor(teeth, step) == 0
+
+
+def common(box, numbers):
+    step = box.wheels[numbers[0]]
+    other_step = box.wheels[numbers[2]]
+    of_one = [tooth for tooth in range(box.teeth) if comes_to(box.teeth, step, numbers[1], tooth)]
+    of_both = [tooth for tooth in of_one if comes_to(box.teeth, other_step, numbers[3], tooth)]
+    return [len(of_both)] + of_both[:1]
+
+
+def same(box, numbers):
+    step = box.wheels[numbers[0]]
+    other_step = box.wheels[numbers[2]]
+    # A line joins two teeth that lie a step apart, or seen from its other end
+    # the rest of the ring apart. With like lines the points stand as far apart
+    # too, so one tooth in common means that all are.
+    like_lines = other_step == step or other_step == box.teeth - step
+    if like_lines and comes_to(box.teeth, step, numbers[1], numbers[3]):
+        return [1]
+    return [0]
+
+
+def cover(box, numbers):
+    step = box.wheels[numbers[0]]
+    # Two figures of one wheel have all points in common or none, so as many
+    # are needed as there are teeth from one point to the neighbouring one.
+    return [common_divisor(box.teeth, step)]
+
+
+def place_in_turn(teeth, steps, begun, k):
+    """Where the point k of two wheels in turn lies."""
+    pairs = k // 2
+    # At an odd point the first wheel has rolled once more than the second.
+    return (begun + (k - pairs) * steps[0] + pairs * steps[1]) % teeth
+
+
+def points_in_turn(teeth, steps):
+    """After how many points two wheels in turn close."""
+    if steps[0] == steps[1]:
+        # Which of two like wheels comes next makes no difference to the
+        # places, so that they may close behind the first one as well.
+        return points_and_rounds(teeth, steps[0])[0]
+    # Unlike wheels go on as before only where the first one comes next again.
+    # Each pair of turns is like one turn of a wheel with the teeth of both.
+    return 2 * points_and_rounds(teeth, steps[0] + steps[1])[0]
+
+
+def turns(box, numbers):
+    steps = (box.wheels[numbers[0]], box.wheels[numbers[1]])
+    points = points_in_turn(box.teeth, steps)
+    places = [place_in_turn(box.teeth, steps, 0, k) for k in range(points)]
+    # Until they close, unlike wheels may come to one tooth twice.
+    return [len(set(places)), points]
+
+
+def turn(box, numbers):
+    steps = (box.wheels[numbers[0]], box.wheels[numbers[1]])
+    return [place_in_turn(box.teeth, steps, numbers[2], numbers[3])]
+
+
+def look(box, numbers):
+    return [box.teeth, len(box.wheels)] + box.wheels
+
+
 # At the number of each call what answers it, once nothing common to all
 # calls refuses it.
-CALLS = (begin, wheel, figure, point, when, crossings, make)
+CALLS = (begin, wheel, figure, point, when, crossings, make, common, same, cover, turns, turn, look)
 
 
 def names_missing_wheel(box, kinds, numbers):
